@@ -1,0 +1,1 @@
+"""Plans of concurrent tasks that run exactly as foretold."""

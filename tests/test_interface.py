@@ -1,0 +1,80 @@
+"""The names, arguments and constants that the document's interface lists, file by file."""
+
+import importlib
+import inspect
+import unittest
+
+FUNCTIONS = {
+    "instants": {
+        "check_instant": "(instant, what='instant')",
+        "next_instant": "(instant)",
+        "later": "(instant, ticks)",
+        "earliest": "(one, two)",
+        "not_after": "(instant, cancel)",
+    },
+    "plans": {
+        "parts_of": "(node)",
+        "check_plan": "(plan)",
+        "depths": "(plan)",
+        "job_count": "(plan)",
+        "job_runs": "(plan)",
+        "longest_cleanup": "(plan)",
+    },
+}
+
+CONSTANTS = {
+    "instants": {"TIME_MOST": 1000000, "ROUND_MOST": 1000},
+    "plans": {"NODES_MOST": 40, "DEPTH_MOST": 8, "RUNS_MOST": 60, "PARTS_MOST": 6},
+}
+
+CLASSES = {
+    "errors": (
+        "ForetoldError", "TextFault", "OutOfRange", "TooManyRoots", "GraceTooShort", "NoRoot", "NotReady",
+        "TasksReady", "NotSettled", "UnlikeEffects", "UnlikeNews", "NotKept", "NotOpen", "HouseFull", "PowerCut",
+        "NoLetter",
+    ),
+}
+
+METHODS = {
+    "errors": {
+        "TextFault": {"__init__": "(self, line, column, words)"},
+        "OutOfRange": {"__init__": "(self, name)"},
+    },
+}
+
+
+def module(name):
+    return importlib.import_module("asforetold." + name)
+
+
+class InterfaceTest(unittest.TestCase):
+    def test_functions_are_defined_in_their_files(self):
+        for file, functions in FUNCTIONS.items():
+            for name, arguments in functions.items():
+                function = vars(module(file))[name]
+                self.assertTrue(inspect.isfunction(function), name)
+                self.assertEqual(function.__module__, "asforetold." + file, name)
+                self.assertEqual(str(inspect.signature(function)), arguments, name)
+
+    def test_constants(self):
+        for file, constants in CONSTANTS.items():
+            for name, value in constants.items():
+                self.assertEqual(vars(module(file))[name], value, name)
+
+    def test_classes_are_defined_in_their_files(self):
+        for file, names in CLASSES.items():
+            for name in names:
+                made = vars(module(file))[name]
+                self.assertTrue(inspect.isclass(made), name)
+                self.assertEqual(made.__module__, "asforetold." + file, name)
+
+    def test_methods_are_defined_in_their_classes(self):
+        for file, classes in METHODS.items():
+            for name, methods in classes.items():
+                for method, arguments in methods.items():
+                    function = vars(vars(module(file))[name])[method]
+                    self.assertEqual(str(inspect.signature(function)), arguments, (name, method))
+
+
+if __name__ == "__main__":
+    unittest.main()
