@@ -12,6 +12,12 @@ FUNCTIONS = {
         "earliest": "(one, two)",
         "not_after": "(instant, cancel)",
     },
+    "paths": {
+        "write_path": "(path)",
+        "read_path": "(text)",
+        "is_above": "(one, two)",
+        "child_path": "(path, scope, part)",
+    },
     "plans": {
         "parts_of": "(node)",
         "check_plan": "(plan)",
@@ -20,11 +26,26 @@ FUNCTIONS = {
         "job_runs": "(plan)",
         "longest_cleanup": "(plan)",
     },
+    "sources": {
+        "write_plan": "(plan)",
+        "read_plan": "(text)",
+    },
+    "foretelling": {
+        "predict": "(plan, path, start, cancel)",
+        "end_of": "(plan, start, cancel)",
+        "job_end": "(node, start, cancel)",
+    },
+    "outlooks": {
+        "moments": "(plan, start)",
+        "outlook": "(plan, start, since)",
+        "cause": "(plan, path, start, trace)",
+    },
 }
 
 CONSTANTS = {
     "instants": {"TIME_MOST": 1000000, "ROUND_MOST": 1000},
     "plans": {"NODES_MOST": 40, "DEPTH_MOST": 8, "RUNS_MOST": 60, "PARTS_MOST": 6},
+    "sources": {"SOURCE_MOST": 2000},
 }
 
 CLASSES = {

@@ -1,5 +1,7 @@
 """Plans for the tests: trees, in which parts stand in place of their indexes, made flat."""
 
+import random
+
 
 def job(duration=1, word="gives", value=1, cleanup=0, fault=None):
     return ("job", duration, word, value, cleanup, fault)
@@ -83,3 +85,90 @@ def one_of_each_word():
         ("pool", 2, (job(1000, "gives", 7), job(0, "gives", 8))),
         ("orelse", job(2, "throws", 9), ("retry", 2, 3, job(5, "throws", 999, 1, 999))),
     ))
+
+
+def random_tree(dice, depth):
+    """A tree of small numbers, at most so deep, so that much of it happens at the same instants."""
+    if depth <= 1 or dice.random() < 0.25:
+        word = dice.choice(("gives", "gives", "throws"))
+        fault = dice.choice((None, None, None, dice.randrange(20, 40)))
+        return job(dice.choice((0, 0, 1, 1, 2, 2, 3, 4, 5, 9)), word, dice.randrange(20), dice.choice((0, 0, 1, 3, 7)), fault)
+    word = dice.choice(("all", "race", "any", "pool", "timeout", "sequence", "orelse", "retry"))
+    if word == "timeout":
+        return (word, dice.choice((0, 1, 2, 3, 4, 7)), random_tree(dice, depth - 1))
+    if word == "orelse":
+        return (word, random_tree(dice, depth - 1), random_tree(dice, depth - 1))
+    if word == "retry":
+        return (word, dice.randrange(4), dice.choice((0, 0, 1, 2)), random_tree(dice, depth - 1))
+    parts = tuple([random_tree(dice, depth - 1) for _ in range(dice.choice((1, 2, 2, 3, 3, 4, 5, 6)))])
+    return ("pool", dice.randint(1, len(parts)), parts) if word == "pool" else (word, parts)
+
+
+def random_plans(seed, many, depth=5):
+    """So many plans, the same ones for the same seed, small and large ones."""
+    dice = random.Random(seed)
+    plans = []
+    while len(plans) < many:
+        tree = random_tree(dice, dice.randint(1, depth))
+        if runs(tree) <= 60 and len(flat(tree)) <= 40:
+            plans.append(flat(tree))
+    return plans
+
+
+def numbers_of(tree):
+    """The numbers of a tree of one of the words other than job."""
+    return {"pool": tree[1:2], "timeout": tree[1:2], "retry": tree[1:3]}.get(tree[0], ())
+
+
+def tokens(tree):
+    """The tokens of the written form of a tree, each with the words for another one in its place."""
+    if tree[0] == "job":
+        _, duration, word, value, cleanup, fault = tree
+        sign = "+" if word == "gives" else "-"
+        end = [] if fault is None else [(",", "expected , or )"), ("!", "expected !"), (str(fault), "expected a number")]
+        return [
+            ("job", "expected a plan"), ("(", "expected ("), (str(duration), "expected a number"), (",", "expected ,"),
+            (sign, "expected + or -"), (str(value), "expected a number"), (",", "expected ,"),
+            (str(cleanup), "expected a number"), *end, (")", "expected , or )" if fault is None else "expected )"),
+        ]
+    found = [(tree[0], "expected a plan"), ("(", "expected (")]
+    for number in numbers_of(tree):
+        found.extend([(str(number), "expected a number"), (",", "expected ,")])
+    many = tree[0] in ("all", "race", "any", "sequence", "pool")
+    for index, part in enumerate(branches(tree)):
+        comma = [(",", "expected , or )" if many else "expected ,")] if index > 0 else []
+        found.extend(comma + tokens(part))
+    return found + [(")", "expected , or )" if many else "expected )")]
+
+
+def lay(signs, dice):
+    """A text of these tokens with blanks and newlines between them; line and column of each, and of the end."""
+    text = ""
+    places = []
+    line, column = 1, 1
+    for sign in [*signs, ""]:
+        apart = dice.choice((" ", "\n", "  ", " \n\n  ", "\n ")) if text else dice.choice(("", " ", "\n"))
+        for char in apart:
+            line, column = (line + 1, 1) if char == "\n" else (line, column + 1)
+        places.append((line, column))
+        text += apart + sign
+        column += len(sign)
+    return text, places
+
+
+def lines(trace):
+    """The lines of a trace, to be compared with what stands in a test."""
+    found = []
+    for path, started, ended, outcome, result in trace:
+        instants = ["-" if instant is None else f"{instant[0]}.{instant[1]}" for instant in (started, ended)]
+        results = ",".join([str(part).removesuffix(" exceeded") for part in result]) or "-"
+        found.append(" ".join([".".join(map(str, path)), *instants, outcome, results]))
+    return found
+
+
+def around(instants, start):
+    """Instants at, around and between these, none before the start."""
+    found = {start}
+    for time, turn in instants:
+        found.update([(time, turn), (time, turn + 1), (time, turn + 2), (time + 1, 0), (time - 1, 7), (time, turn - 1)])
+    return sorted([instant for instant in found if instant >= start and instant[1] >= 0])
