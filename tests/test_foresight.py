@@ -63,7 +63,8 @@ class ForesightTest(unittest.TestCase):
                 without = predict(plan, (1,), start, None)[3]
                 with_it = predict(plan, (1,), start, cancel)[3]
                 self.assertEqual(
-                    [entry for entry in with_it if entry[2] <= cancel], [entry for entry in without if entry[2] <= cancel],
+                    [entry for entry in with_it if entry[2] <= cancel],
+                    [entry for entry in without if entry[2] <= cancel],
                 )
 
     def test_what_has_started_is_the_same_until_the_cancellation(self):

@@ -321,7 +321,8 @@ class TimeoutTest(Foretold):
     def test_a_deadline_of_no_ticks(self):
         self.ends("timeout(0,job(0,+1,0))", (None, "4.2 completed 1"), ((4, 2), "4.2 completed 1"), start=(4, 2))
         self.ends("timeout(0,job(0,-1,0))", (None, "4.2 failed 1"), start=(4, 2))
-        self.ends("timeout(0,job(1,+1,0))", (None, "4.3 failed deadline"), ((4, 2), "4.3 failed deadline"), start=(4, 2))
+        for cancel in (None, (4, 2), (4, 3)):
+            self.ends("timeout(0,job(1,+1,0))", (cancel, "4.3 failed deadline"), start=(4, 2))
         self.ends("timeout(0,job(1,+1,2,!3))", (None, "6.0 failed deadline,3"), start=(4, 2))
 
     def test_cancelled_before_the_deadline(self):
@@ -341,7 +342,9 @@ class TimeoutTest(Foretold):
         self.ends("race(job(3,+1,0),timeout(5,job(9,+2,4)))", (None, "7.0 completed 1"))
         self.ends("race(job(5,+1,0),timeout(5,job(9,+2,4)))", (None, "9.0 failed deadline"))
         # The timeout fails in the round behind its deadline, and only then the race is decided.
-        self.ends("race(job(6,+1,0),timeout(5,job(9,+2,0)))", (None, "5.2 failed deadline"), ((5, 0), "5.1 failed deadline"))
+        self.ends(
+            "race(job(6,+1,0),timeout(5,job(9,+2,0)))", (None, "5.2 failed deadline"), ((5, 0), "5.1 failed deadline"),
+        )
 
 
 class SequenceTest(Foretold):
@@ -378,7 +381,8 @@ class OrelseTest(Foretold):
             "0.1.0 2.0 5.0 completed 8",
         )
         self.ends("orelse(job(2,-5,0),job(3,-8,0))", (None, "5.0 failed 8"))
-        self.ends("orelse(job(0,-5,0),job(0,+8,0))", (None, "4.2 completed 8"), ((4, 2), "4.2 completed 8"), start=(4, 2))
+        for cancel in (None, (4, 2)):
+            self.ends("orelse(job(0,-5,0),job(0,+8,0))", (cancel, "4.2 completed 8"), start=(4, 2))
 
     def test_cancelled(self):
         self.runs("orelse(job(2,-5,0),job(3,+8,0))", (1, 0), "0 0.0 1.1 cancelled -", "0.0.0 0.0 1.1 cancelled -")

@@ -40,12 +40,24 @@ FUNCTIONS = {
         "outlook": "(plan, start, since)",
         "cause": "(plan, path, start, trace)",
     },
+    "traces": {
+        "write_trace": "(trace)",
+        "read_trace": "(text)",
+    },
+    "coroutines": {
+        "resume_node": "(node, step, answer)",
+    },
+    "tasks": {
+        "scope_answer": "(scope, tasks)",
+    },
 }
 
 CONSTANTS = {
     "instants": {"TIME_MOST": 1000000, "ROUND_MOST": 1000},
     "plans": {"NODES_MOST": 40, "DEPTH_MOST": 8, "RUNS_MOST": 60, "PARTS_MOST": 6},
     "sources": {"SOURCE_MOST": 2000},
+    "traces": {"TRACE_MOST": 20000},
+    "scheduler": {"ROOTS_MOST": 8, "GRACE_MOST": 1000, "TICKS_MOST": 1000, "CHOICES_MOST": 50},
 }
 
 CLASSES = {
@@ -54,12 +66,49 @@ CLASSES = {
         "TasksReady", "NotSettled", "UnlikeEffects", "UnlikeNews", "NotKept", "NotOpen", "HouseFull", "PowerCut",
         "NoLetter",
     ),
+    "tasks": ("Task", "Scope"),
+    "scheduler": ("Scheduler",),
 }
 
 METHODS = {
     "errors": {
         "TextFault": {"__init__": "(self, line, column, words)"},
         "OutOfRange": {"__init__": "(self, name)"},
+    },
+    "tasks": {
+        "Task": {
+            "__init__": "(self, path, place, state='created', ended=None, outcome=None, result=None, mark=None)",
+            "duplicate": "(self)",
+            "is_alive": "(self)",
+        },
+        "Scope": {
+            "__init__": "(self, path, mode, deadline, parts, closed=None, timed_out=False)",
+            "duplicate": "(self)",
+        },
+    },
+    "scheduler": {
+        "Scheduler": {
+            "__init__": "(self, grace)",
+            "spawn": "(self, plan)",
+            "cancel": "(self, root)",
+            "clock": "(self)",
+            "grace": "(self)",
+            "root_count": "(self)",
+            "ready": "(self)",
+            "resume": "(self, number)",
+            "settle": "(self)",
+            "next_event": "(self)",
+            "advance": "(self, ticks)",
+            "run": "(self, ticks, choices)",
+            "plan": "(self, root)",
+            "started": "(self, root)",
+            "cancelled": "(self, root)",
+            "completion": "(self, root)",
+            "trace": "(self, root)",
+            "task": "(self, path)",
+            "scopes": "(self)",
+            "state": "(self)",
+        },
     },
 }
 

@@ -2,7 +2,7 @@ import copy
 import itertools
 import unittest
 
-from asforetold.paths import child_path, is_above, read_path, write_path
+from asforetold.paths import child_path, is_above, is_below, read_path, write_path
 
 NUMBERS = (0, 1, 7, 10, 99, 100, 65535, 999999, 1000000, 9999999)
 
@@ -97,6 +97,14 @@ class AboveTest(unittest.TestCase):
                 other = path[:place] + (path[place] + 1,) + path[place + 1:]
                 self.assertFalse(is_above(other, below))
                 self.assertFalse(is_above(path, other + (0, 3)))
+
+
+class BelowTest(unittest.TestCase):
+    def test_below_one_of_several(self):
+        self.assertIs(is_below((0, 1), [(0,)]), True)
+        self.assertIs(is_below((0, 1, 2), [(1,), (0, 1), (0, 1, 2)]), True)
+        self.assertIs(is_below((0, 1), [(1,), (0, 1), (0, 1, 2), (0, 0)]), False)
+        self.assertIs(is_below((0, 1), []), False)
 
 
 class ChildTest(unittest.TestCase):

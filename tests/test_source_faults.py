@@ -99,13 +99,15 @@ class PlaceTest(unittest.TestCase):
             ("jab(4,+1,0)", 1, 1, "expected a plan"), ("Job(4,+1,0)", 1, 1, "expected a plan"),
             ("jobs(4,+1,0)", 1, 1, "expected a plan"), ("jobz(4,+1,0)", 1, 1, "expected a plan"),
             ("ajob(4,+1,0)", 1, 1, "expected a plan"), ("joB(4,+1,0)", 1, 1, "expected a plan"),
-            ("job{4,+1,0)", 1, 4, "expected ("), ("job`4,+1,0)", 1, 4, "expected ("), ("job4(4,+1,0)", 1, 4, "expected ("),
+            ("job{4,+1,0)", 1, 4, "expected ("), ("job`4,+1,0)", 1, 4, "expected ("),
+            ("job4(4,+1,0)", 1, 4, "expected ("),
             ("job (4\n,1,0)", 2, 2, "expected + or -"), ("job(4,+1,0,5)", 1, 12, "expected !"),
             ("job(4,+1,0,!)", 1, 13, "expected a number"), ("job(4,+1,0,!5,6)", 1, 14, "expected )"),
             ("job(4,+1,0,!5", 1, 14, "expected )"), ("job(4,+1 2,0)", 1, 10, "expected ,"),
             ("job(4,+1,0);", 1, 12, "expected the end"), ("job(4,+1,0)\n\n job(4,+1,0)", 3, 2, "expected the end"),
             ("all()", 1, 5, "expected a plan"), ("all(job(1,+1,0),)", 1, 17, "expected a plan"),
-            ("all(job(1,+1,0) job(1,+1,0))", 1, 17, "expected , or )"), ("pool(job(1,+1,0))", 1, 6, "expected a number"),
+            ("all(job(1,+1,0) job(1,+1,0))", 1, 17, "expected , or )"),
+            ("pool(job(1,+1,0))", 1, 6, "expected a number"),
             ("pool(2 job(1,+1,0))", 1, 8, "expected ,"), ("timeout(5,job(1,+1,0),job(1,+1,0))", 1, 22, "expected )"),
             ("orelse(job(1,+1,0))", 1, 19, "expected ,"), ("orelse(job(1,+1,0),job(1,+1,0),", 1, 31, "expected )"),
             ("retry(1,job(1,+1,0))", 1, 9, "expected a number"), ("retry(1,2,3)", 1, 11, "expected a plan"),
@@ -117,7 +119,8 @@ class PlaceTest(unittest.TestCase):
         self.faulty(
             ("job(04,+1,0)", 1, 5, "expected a number"), ("job(4,+00,0)", 1, 8, "expected a number"),
             ("job(4,+1,00)", 1, 10, "expected a number"), ("job(4,+1,0,!007)", 1, 13, "expected a number"),
-            ("pool(00,job(1,+1,0))", 1, 6, "expected a number"), ("timeout(0001001,job(1,+1,0))", 1, 9, "expected a number"),
+            ("pool(00,job(1,+1,0))", 1, 6, "expected a number"),
+            ("timeout(0001001,job(1,+1,0))", 1, 9, "expected a number"),
             ("job(0 4,+1,0)", 1, 7, "expected ,"),
         )
 
@@ -196,7 +199,8 @@ class BoundTest(unittest.TestCase):
             self.assertEqual(fault_of(text), None if many <= 60 else (*places[-1], "too many runs"))
 
     def test_runs_of_retries_within_one_another(self):
-        for retries, many in (((5, 5), 36), ((5, 5, 1), 72), ((2, 4, 3), 60), ((4, 2, 3), 60), ((0, 5, 0, 5, 0, 1), 72)):
+        rows = (((5, 5), 36), ((5, 5, 1), 72), ((2, 4, 3), 60), ((4, 2, 3), 60), ((0, 5, 0, 5, 0, 1), 72))
+        for retries, many in rows:
             tree = job()
             for number in retries:
                 tree = ("retry", number, 0, tree)

@@ -92,7 +92,8 @@ def random_tree(dice, depth):
     if depth <= 1 or dice.random() < 0.25:
         word = dice.choice(("gives", "gives", "throws"))
         fault = dice.choice((None, None, None, dice.randrange(20, 40)))
-        return job(dice.choice((0, 0, 1, 1, 2, 2, 3, 4, 5, 9)), word, dice.randrange(20), dice.choice((0, 0, 1, 3, 7)), fault)
+        duration = dice.choice((0, 0, 1, 1, 2, 2, 3, 4, 5, 9))
+        return job(duration, word, dice.randrange(20), dice.choice((0, 0, 1, 3, 7)), fault)
     word = dice.choice(("all", "race", "any", "pool", "timeout", "sequence", "orelse", "retry"))
     if word == "timeout":
         return (word, dice.choice((0, 1, 2, 3, 4, 7)), random_tree(dice, depth - 1))
@@ -125,7 +126,9 @@ def tokens(tree):
     if tree[0] == "job":
         _, duration, word, value, cleanup, fault = tree
         sign = "+" if word == "gives" else "-"
-        end = [] if fault is None else [(",", "expected , or )"), ("!", "expected !"), (str(fault), "expected a number")]
+        end = []
+        if fault is not None:
+            end = [(",", "expected , or )"), ("!", "expected !"), (str(fault), "expected a number")]
         return [
             ("job", "expected a plan"), ("(", "expected ("), (str(duration), "expected a number"), (",", "expected ,"),
             (sign, "expected + or -"), (str(value), "expected a number"), (",", "expected ,"),
