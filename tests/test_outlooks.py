@@ -137,11 +137,12 @@ def changed(trace, at, kind):
     """The trace with a change of a kind at an entry."""
     path, started, ended, outcome, result = trace[at]
     time, turn = ended
+    begun = (0, 0) if started is None else started
     entry = (
         (path, started, (time + 1, turn), outcome, result), (path, started, (time - 1, turn), outcome, result),
         (path, started, (time, turn + 1), outcome, result), (path, started, (time, turn - 1), outcome, result),
-        (path, None, ended, outcome, result), (path, (time, turn), ended, outcome, result),
-        (path, (0, 1), ended, outcome, result), (path, started, ended, "failed", (0,)),
+        (path, None, ended, outcome, result), (path, (begun[0] + 1, begun[1]), ended, outcome, result),
+        (path, (begun[0], begun[1] + 1), ended, outcome, result), (path, started, ended, "failed", (0,)),
         (path, started, ended, "cancelled", ()), (path, started, ended, outcome, (*result, 3)),
     )
     if kind < len(entry):
