@@ -50,6 +50,21 @@ FUNCTIONS = {
     "tasks": {
         "scope_answer": "(scope, tasks)",
     },
+    "blocks": {
+        "encode_record": "(number, text)",
+        "decode_piece": "(block)",
+        "encode_head": "(grace)",
+        "decode_head": "(block)",
+    },
+    "deeds": {
+        "check_deed": "(deed)",
+        "write_deed": "(deed)",
+        "read_deed": "(text)",
+    },
+    "journal": {
+        "format_disk": "(disk, grace)",
+        "open_journal": "(disk)",
+    },
 }
 
 CONSTANTS = {
@@ -58,6 +73,9 @@ CONSTANTS = {
     "sources": {"SOURCE_MOST": 2000},
     "traces": {"TRACE_MOST": 20000},
     "scheduler": {"ROOTS_MOST": 8, "GRACE_MOST": 1000, "TICKS_MOST": 1000, "CHOICES_MOST": 50},
+    "disks": {"BLOCK": 32, "BLOCKS_MOST": 400},
+    "blocks": {"PIECE": 24, "PIECES_MOST": 255},
+    "journal": {"DEEDS_MOST": 200},
 }
 
 CLASSES = {
@@ -68,6 +86,8 @@ CLASSES = {
     ),
     "tasks": ("Task", "Scope"),
     "scheduler": ("Scheduler",),
+    "disks": ("Disk",),
+    "journal": ("Journal",),
 }
 
 METHODS = {
@@ -108,6 +128,29 @@ METHODS = {
             "task": "(self, path)",
             "scopes": "(self)",
             "state": "(self)",
+        },
+    },
+    "disks": {
+        "Disk": {
+            "__init__": "(self, blocks)",
+            "size": "(self)",
+            "read": "(self, at)",
+            "write": "(self, at, block)",
+            "flush": "(self)",
+            "pending_count": "(self)",
+            "cut_count": "(self)",
+            "cut_power": "(self, torn)",
+            "schedule_cut": "(self, many, torn)",
+        },
+    },
+    "journal": {
+        "Journal": {
+            "grace": "(self)",
+            "deeds": "(self)",
+            "append": "(self, deed)",
+            "sync": "(self)",
+            "keep": "(self, many)",
+            "free_blocks": "(self)",
         },
     },
 }

@@ -175,3 +175,8 @@ def around(instants, start):
     for time, turn in instants:
         found.update([(time, turn), (time, turn + 1), (time, turn + 2), (time + 1, 0), (time - 1, 7), (time, turn - 1)])
     return sorted([instant for instant in found if instant >= start and instant[1] >= 0])
+
+
+def contents(disk):
+    """All blocks of a disk, as they are read."""
+    return [disk.read(at) for at in range(disk.size())]
