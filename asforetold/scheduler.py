@@ -13,6 +13,11 @@ TICKS_MOST = 1000
 CHOICES_MOST = 50
 
 
+def are_choices(choices):
+    """Whether these can be the choices of a run."""
+    return len(choices) <= CHOICES_MOST and all([choice >= 0 for choice in choices])
+
+
 class Root:
     """A plan that was spawned, when it was so, and what is known of its cancellation."""
 
@@ -39,11 +44,7 @@ class Scheduler:
 
     def spawn(self, plan):
         """Make a root task for a plan, and return its number."""
-        check_plan(plan)
-        if longest_cleanup(plan) > self._grace:
-            raise GraceTooShort("a job of the plan cleans up for longer than the grace")
-        if len(self._roots) >= ROOTS_MOST:
-            raise TooManyRoots("there is no place for another root")
+        self.check_spawn(plan)
         root = len(self._roots)
         self._roots.append(Root(plan, self._clock))
         self._add_task((root,), len(plan) - 1)
@@ -51,11 +52,30 @@ class Scheduler:
 
     def cancel(self, root):
         """Request the cancellation of a root; whether this has an effect."""
-        known = self._root(root)
-        if known.requested or not self._tasks[(root,)].is_alive():
+        if not self.can_cancel(root):
             return False
-        known.requested = True
+        self._roots[root].requested = True
         return True
+
+    def check_spawn(self, plan):
+        """Raise what refuses to spawn a plan, if anything does."""
+        check_plan(plan)
+        if longest_cleanup(plan) > self._grace:
+            raise GraceTooShort("a job of the plan cleans up for longer than the grace")
+        if len(self._roots) >= ROOTS_MOST:
+            raise TooManyRoots("there is no place for another root")
+
+    def can_cancel(self, root):
+        """Whether to request the cancellation of a root would have an effect."""
+        known = self._root(root)
+        return not known.requested and self._tasks[(root,)].is_alive()
+
+    def check_run(self, ticks, choices):
+        """Raise what refuses to run so many ticks with these choices, if anything does."""
+        if not 0 <= ticks <= TICKS_MOST:
+            raise OutOfRange("ticks")
+        if not are_choices(choices):
+            raise OutOfRange("choices")
 
     def clock(self):
         """The present instant."""
@@ -111,10 +131,7 @@ class Scheduler:
 
     def run(self, ticks, choices):
         """Run up to so many ticks from now, resuming ready tasks by the choices; the clock."""
-        if not 0 <= ticks <= TICKS_MOST:
-            raise OutOfRange("ticks")
-        if len(choices) > CHOICES_MOST or not all([choice >= 0 for choice in choices]):
-            raise OutOfRange("choices")
+        self.check_run(ticks, choices)
         until = self._clock[0] + ticks
         resumed = 0
         running = True
@@ -158,6 +175,15 @@ class Scheduler:
                 entries.append((path, task.started, task.ended, task.outcome, task.result))
         return tuple(entries)
 
+    def effects(self):
+        """What the jobs that completed have achieved: (path, value, ended), in the order of paths."""
+        effects = []
+        for path in sorted(self._tasks):
+            task = self._tasks[path]
+            if task.outcome == "completed" and self._node(task)[0] == "job":
+                effects.append((path, task.result[0], task.ended))
+        return effects
+
     def task(self, path):
         """The state of a task, its mark and whether its cancellation was delivered; None if there is none."""
         if path not in self._tasks:
@@ -198,6 +224,10 @@ class Scheduler:
         self._tasks[path] = task
         self._alive[path] = task
 
+    def _node(self, task):
+        """The node that a task carries out."""
+        return self._roots[task.path[0]].plan[task.place]
+
     def _parts(self, scope):
         """The tasks of a scope, in order."""
         return [self._tasks[scope.path + (part,)] for part in range(scope.parts)]
@@ -218,8 +248,7 @@ class Scheduler:
         """Resume a task, and return its state afterwards."""
         if task.state == "created":
             task.started = self._clock
-        plan = self._roots[task.path[0]].plan
-        result, task.step = resume_node(plan[task.place], task.step, task.take_answer())
+        result, task.step = resume_node(self._node(task), task.step, task.take_answer())
         if result[0] == "throws":
             self._end_task(task, self._clock, "failed", result[1])
         elif result[0] == "done" and task.mark is None:

@@ -108,7 +108,8 @@ class TextTest(unittest.TestCase):
     def test_plans_that_are_not_written_so(self):
         wrong = (
             "spawn job(4, +1,0)", "spawn  job(4,+1,0)", "spawn job(4,+1,0) ", "spawn\njob(4,+1,0)",
-            "spawn job(4,+1,0)\n", "spawn job (4,+1,0)", "spawn job(04,+1,0)", "spawn job(4,+01,0)", "spawn job(4,1,0)", "spawn job(4,+1,0",
+            "spawn job(4,+1,0)\n", "spawn job (4,+1,0)", "spawn job(04,+1,0)", "spawn job(4,+01,0)",
+            "spawn job(4,1,0)", "spawn job(4,+1,0",
             "spawn job(4,+1,0))", "spawn job(1001,+1,0)", "spawn job(4,+1000,0)", "spawn job(4,+1,101)",
             "spawn job(4,+1,0,!)", "spawn job(4,+1,0,!1000)", "spawn all()", "spawn pool(0,job(4,+1,0))",
             "spawn retry(5,0,retry(5,0,all(job(4,+1,0),job(4,+1,0))))", "spawn job(4,+1,0),job(4,+1,0)",

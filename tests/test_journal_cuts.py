@@ -6,17 +6,12 @@ import unittest
 from asforetold.disks import Disk
 from asforetold.errors import HouseFull, NotKept, NotOpen, PowerCut
 from asforetold.journal import format_disk, open_journal
-from tests.trees import contents, flat, job, random_plans
+from tests.trees import contents, flat, job, random_plans, torn_ones
 
 SHORT = ("advance", 5)
 CANCEL = ("cancel", 3)
 RACE = ("spawn", flat(("race", (job(4), job(9, "gives", 2, 3)))))
 WIDE = ("spawn", flat(("all", (job(4), job(9, "gives", 2, 3), job(100, "throws", 9, 30)))))
-
-
-def torn_ones(dice):
-    """Numbers of bytes that are nothing or all, for the most part."""
-    return [dice.choice((0, 32, 32, dice.randrange(33))) for _ in range(dice.randrange(60))]
 
 
 class Keeper:

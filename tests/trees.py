@@ -1,6 +1,8 @@
-"""Plans for the tests: trees, in which parts stand in place of their indexes, made flat."""
+"""What the tests share: plans, as trees in which parts stand in place of their indexes, made flat; disks and deeds."""
 
 import random
+
+from asforetold.scheduler import Scheduler
 
 
 def job(duration=1, word="gives", value=1, cleanup=0, fault=None):
@@ -180,3 +182,40 @@ def around(instants, start):
 def contents(disk):
     """All blocks of a disk, as they are read."""
     return [disk.read(at) for at in range(disk.size())]
+
+
+def torn_ones(dice):
+    """Numbers of bytes that are nothing or all, for the most part."""
+    return [dice.choice((0, 32, 32, dice.randrange(33))) for _ in range(dice.randrange(60))]
+
+
+def replayed(grace, deeds):
+    """A scheduler to which these deeds were done."""
+    scheduler = Scheduler(grace)
+    for word, content in deeds:
+        if word == "spawn":
+            scheduler.spawn(content)
+        elif word == "cancel":
+            scheduler.cancel(content)
+        else:
+            scheduler.run(content, [])
+    return scheduler
+
+
+def effects_of(trace):
+    """The effects of a trace: of its entries that completed, those that are above no other one."""
+    paths = {entry[0] for entry in trace}
+    return [
+        ("effect", path, result[0], ended)
+        for path, _, ended, outcome, result in trace
+        if outcome == "completed" and (*path, 0, 0) not in paths
+    ]
+
+
+def news_of(scheduler):
+    """The news of a house that has synced what was done to this scheduler."""
+    roots = range(scheduler.root_count())
+    clock = scheduler.clock()
+    told = [(root, scheduler.started(root), scheduler.plan(root), scheduler.cancelled(root), clock) for root in roots]
+    effects = [effect for root in roots for effect in effects_of(scheduler.trace(root))]
+    return [("root", *news) for news in told] + effects
